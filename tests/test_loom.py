@@ -6,29 +6,21 @@ import io
 import sys
 import unittest
 
+from helper import (
+    HIGHEST,
+    LoomTest,
+    begins,
+    fewest,
+    lifts,
+    picks,
+    press,
+    told_fewest,
+    told_lifts,
+    told_press,
+    told_walk,
+    walk,
+)
 from treadles import loom
-
-HIGHEST = 4294967295
-
-
-def begins(shafts):
-    return [0, shafts]
-
-
-def picks(*lifts):
-    return [1, len(lifts), *lifts]
-
-
-def lifts():
-    return [2]
-
-
-def told_lifts(*counts):
-    """What lifts answers where the picks have these lifts, each given with how many picks have it."""
-    numbers = [len(counts)]
-    for lift, count in counts:
-        numbers += [2, lift, count]
-    return numbers
 
 
 class Frozen(list):
@@ -41,15 +33,14 @@ class Frozen(list):
     __setitem__ = __delitem__ = __iadd__ = __imul__ = refuse
 
 
-class LoomTest(unittest.TestCase):
-    def check(self, *pairs):
-        """Hand in all calls in one list; each pair is a call and the numbers that it must answer."""
-        calls = []
-        expected = []
-        for call, answer in pairs:
-            calls += call
-            expected += [len(answer), *answer]
-        self.assertEqual(loom.answers(calls), expected)
+def every_call():
+    """Each call, answered and refused, on one loom."""
+    return (
+        begins(3) + picks(7, 1, 0) + lifts() + picks(8) + begins(9) + picks()
+        + fewest(2) + fewest(4) + press(3, 1, 2, 4) + press(2, 1, 2, 4) + press(0, 1) + press(1, *[1] * 9)
+        + walk(1, 2, 6) + walk(1, 2, 4) + walk(7) + walk(1, 8)
+        + begins(1) + lifts() + fewest(1) + press(1) + walk(1, 1)
+    )
 
 
 class InterfaceTest(LoomTest):
@@ -62,10 +53,14 @@ class InterfaceTest(LoomTest):
         self.assertEqual(loom.answers([2]), [1, 0])
         self.assertEqual(loom.answers([1, 1, 1, 2]), [1, 1, 4, 1, 2, 1, 1])
 
-    def test_readme_example(self):
+    def test_readme_examples(self):
         self.assertEqual(
             loom.answers([0, 2, 1, 4, 1, 3, 0, 1, 2]),
             [1, 0, 1, 4, 7, 2, 2, 1, 2, 2, 3, 1],
+        )
+        self.assertEqual(
+            loom.answers([0, 3, 1, 2, 3, 5, 3, 2, 4, 2, 3, 1, 2, 4, 5, 3, 1, 2, 4]),
+            [1, 0, 1, 2, 6, 2, 1, 1, 2, 3, 5, 7, 4, 2, 0, 1, 2, 0, 2, 9, 1, 1, 1, 2, 0, 1, 2, 0, 2],
         )
 
     def test_lifts_that_look_like_calls(self):
@@ -74,6 +69,43 @@ class InterfaceTest(LoomTest):
             (picks(2, 2, 0, 1), [4]),
             (picks(1, 2), [6]),
             (lifts(), told_lifts((1, 2), (2, 3))),
+        )
+
+    def test_calls_in_any_order_about_one_loom(self):
+        self.check(
+            (walk(1, 1), [0, 1, 1]),
+            (press(2, 1), [0]),
+            (fewest(3), [0, 1, 1, 0]),
+            (lifts(), [0]),
+            (begins(3), [0]),
+            (picks(3, 5), [2]),
+            (press(2, 1, 2, 4), told_press([0, 1], [0, 2])),
+            (walk(1, 2, 4), told_walk(1, 1, (0, 1), (0, 2))),
+            (press(1, 1, 2, 4), [-6, 1, 0]),
+            (fewest(1), told_fewest(1, 3, 5)),
+            (picks(9), [-1]),
+            (walk(1, 2), [-6]),
+            (picks(0, 3), [4]),
+            (fewest(2), told_fewest(1, 3, 5)),
+            (walk(3, 0, 5), told_walk(0, 1, (0, 2), (0, 2), (0, 2), (0, 2))),
+            (fewest(0), [-1]),
+            (lifts(), told_lifts((3, 2), (5, 1))),
+            (press(3, 5, 3), told_press([1], [0], [], [1])),
+            (begins(1), [0]),
+            (walk(2, 1), [-1]),
+            (press(1, 2), [-1]),
+            (walk(1, 1), [0, 1, 1]),
+        )
+
+    def test_refused_calls_are_read_to_their_end(self):
+        self.check(
+            (press(0, 2, 2, 2), [-1]),
+            (walk(2), [-1]),
+            (press(0, *[5] * 40), [-1]),
+            (walk(*[5] * 40), [-1]),
+            (fewest(5), [-1]),
+            (picks(5, 5, 5), [-1]),
+            (lifts(), [0]),
         )
 
     def test_sixty_calls(self):
@@ -92,13 +124,13 @@ class InterfaceTest(LoomTest):
         self.assertEqual(loom.answers(calls=[0, 1]), [1, 0])
 
     def test_kinds(self):
-        told = loom.answers(begins(2) + picks(0, 1, 3) + lifts() + picks(4) + begins(0))
+        told = loom.answers(every_call())
         self.assertIs(type(told), list)
         for number in told:
             self.assertIs(type(number), int)
 
     def test_what_is_handed_in_is_not_changed(self):
-        calls = begins(3) + picks(7, 1, 0) + lifts() + picks(8) + begins(9) + picks() + begins(1) + lifts()
+        calls = every_call()
         before = list(calls)
         loom.answers(calls)
         self.assertEqual(calls, before)
@@ -109,6 +141,7 @@ class InterfaceTest(LoomTest):
         first = loom.answers(calls)
         self.assertEqual(first, [1, 0, 1, 2, 7, 2, 2, 1, 1, 2, 3, 1, 1, -1, 1, 3])
         self.assertEqual(loom.answers(calls), first)
+        self.assertEqual(loom.answers(every_call()), loom.answers(every_call()))
 
     def test_nothing_is_kept(self):
         calls = picks(1) + picks(2) + lifts()
@@ -116,14 +149,14 @@ class InterfaceTest(LoomTest):
         told = loom.answers(calls)
         self.assertEqual(told, expected)
         told.clear()
-        loom.answers(begins(4) + picks(*[15] * 40))
+        loom.answers(begins(4) + picks(*[15] * 40) + fewest(2) + press(1, 15) + walk(15, 0))
         self.assertEqual(loom.answers(calls), expected)
 
     def test_prints_and_imports_nothing(self):
         shown = io.StringIO()
         modules = set(sys.modules)
         with contextlib.redirect_stdout(shown), contextlib.redirect_stderr(shown):
-            loom.answers(begins(2) + picks(3, 1) + lifts() + picks(4) + begins(5))
+            loom.answers(every_call())
         self.assertEqual(shown.getvalue(), "")
         self.assertEqual(set(sys.modules), modules)
 
@@ -281,6 +314,16 @@ class LiftsTest(LoomTest):
             (picks(3, 12, 1), [8]),
             (lifts(), told_lifts((1, 1), (3, 2), (9, 1), (12, 3))),
         )
+
+    def test_two_lifts_rising(self):
+        for lift in range(1, 16):
+            for lower in range(1, lift):
+                with self.subTest(lift=lift, lower=lower):
+                    self.check(
+                        (begins(4), [0]),
+                        (picks(lift, lower), [2]),
+                        (lifts(), told_lifts((lower, 1), (lift, 1))),
+                    )
 
     def test_empty_lift_is_not_counted(self):
         self.check((begins(2), [0]), (picks(0), [1]), (lifts(), [0]), (picks(2, 0), [3]), (lifts(), told_lifts((2, 1))))

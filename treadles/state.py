@@ -2,9 +2,11 @@
 
 MOST_SHAFTS = 4
 MOST_PICKS = 40
+MOST_TREADLES = 8
 
 OUT_OF_RANGE = -1
 TOO_MANY_PICKS = -5
+NOT_MADE = -6
 
 
 class Loom:
@@ -39,6 +41,25 @@ class Loom:
                 return False
         return True
 
+    def may_have_treadles(self, ties):
+        """Whether there may be a treadle for each of these sets of shafts, tied to it."""
+        return len(ties) <= MOST_TREADLES and self.has_shafts(ties)
+
+    def lifts_needed(self):
+        """The different lifts of the picks but the empty one, rising."""
+        return [lift for lift in sorted(set(self.picked)) if lift != 0]
+
     def lift_counts(self):
         """Of each lift but the empty one, rising: the lift and how many picks have it."""
-        return [[lift, self.picked.count(lift)] for lift in sorted(set(self.picked)) if lift != 0]
+        return [[lift, self.picked.count(lift)] for lift in self.lifts_needed()]
+
+    def first_not_in(self, ways):
+        """The first pick whose lift has no way among these, or None."""
+        for pick, lift in enumerate(self.picked):
+            if lift not in ways:
+                return pick
+        return None
+
+    def pressed_by(self, ways):
+        """Of each pick the treadles that these ways tell for its lift."""
+        return [ways[lift] for lift in self.picked]
